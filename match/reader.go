@@ -119,7 +119,7 @@ func (r *reader) counted() (part, api.Errno) {
 	return part{kind: counted, inner: []part{p}, times: t}, api.OK
 }
 
-// bounds goes from a { to its }.
+// bounds goes from a { to its }, and stays there, as at the other signs.
 func (r *reader) bounds() (times, api.Errno) {
 	r.at++
 	least, bad := r.number()
