@@ -8,9 +8,39 @@ import (
 	"sealskin/desk"
 	"sealskin/disk"
 	"sealskin/server"
+	"sealskin/watch"
+	"sealskin/world"
 )
 
-// What README.md shows.
+// What README.md shows of worlds, with a policy of a client 0 that is low, and 2, that is high.
+func TestReadmeWorld(t *testing.T) {
+	policy := house()
+	w, bad := world.New(policy)
+	if bad != api.OK {
+		t.Fatal(bad)
+	}
+	for _, e := range []api.Event{{Kind: api.ELogin}, {Kind: api.EUp}, {Kind: api.EDeliver}, {Kind: api.EEdit, Text: "ab"}} {
+		if bad := w.Do(e); bad != api.OK {
+			t.Error(e, bad)
+		}
+	}
+	if up, down := w.Waiting(0); up == 0 || down != 0 {
+		t.Error(up, down)
+	}
+	if bad := w.Do(api.Event{Kind: api.ETorn, N: 9}); bad != api.OK || w.Shot(0).View != "ab" {
+		t.Error(bad, w.Shot(0))
+	}
+	script := []api.Event{{Kind: api.ELogin}, {Kind: api.ELogin, Client: 2}, {Kind: api.ETick}}
+	part := watch.Purge(policy, 0, script)
+	a, _ := watch.Observe(policy, 0, script)
+	b, _ := watch.Observe(policy, 0, part)
+	let, bad := watch.Releases(policy, 0, script)
+	if len(part) != 2 || watch.Alike(a, b) != 2 || len(let) != 0 || bad != api.OK {
+		t.Error(part, a, b, let, bad)
+	}
+}
+
+// What README.md shows of servers and clients.
 func TestReadme(t *testing.T) {
 	policy := house()
 	k, _ := desk.New(policy)
