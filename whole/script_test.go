@@ -80,13 +80,15 @@ func (m *maker) do(e api.Event) {
 const (
 	carries = api.ERedo + 1 + iota // all that is on its way, both ways
 	goesWild
+	sleeps // for many ticks
+	floods // a way, until there is no room
 	kinds
 )
 
 // often is how often each kind is made, of 200.
 var often = [kinds]int{
 	api.ELogin: 15, api.EEdit: 36, api.EDown: 12, api.ECursor: 8, api.EBye: 1, api.EUp: 28, api.EDeliver: 28, api.ELose: 4, api.EDouble: 4,
-	api.ETick: 17, api.ECrash: 1, api.ETorn: 2, api.ECheck: 2, api.EUndo: 5, api.ERedo: 3, carries: 32, goesWild: 2,
+	api.ETick: 17, api.ECrash: 1, api.ETorn: 2, api.ECheck: 2, api.EUndo: 5, api.ERedo: 3, carries: 30, goesWild: 2, sleeps: 1, floods: 1,
 }
 
 // some makes something, whatever it is.
@@ -102,6 +104,12 @@ func (m *maker) some() {
 		m.carry(who)
 	case goesWild:
 		m.do(m.wild())
+	case sleeps:
+		for range 5 + m.Intn(30) {
+			m.do(api.Event{Kind: api.ETick})
+		}
+	case floods:
+		m.flood(who, m.Intn(2))
 	case api.EDown:
 		m.carry(who) // while something is pending nothing can be let down
 		m.do(m.fitting(kind, who))
@@ -124,6 +132,16 @@ func (m *maker) carry(who int) {
 		if up+down == 0 {
 			return
 		}
+	}
+}
+
+// flood doubles what is on its way on a side, until there is no room, and once more.
+func (m *maker) flood(who, side int) {
+	if _, ok := m.w.Frame(who, side, 0); !ok {
+		return
+	}
+	for k := range api.MaxLink {
+		m.do(api.Event{Kind: api.EDouble, Client: who, At: side, N: k})
 	}
 }
 
