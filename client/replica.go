@@ -43,7 +43,9 @@ func (r *replica) view() string {
 	if r.onWay.Kind == api.MEdit {
 		s, _ = edit.Apply(r.onWay.Edit, s)
 	}
-	s, _ = edit.Apply(r.buffer, s)
+	if edit.Changes(r.buffer) { // mostly it does not, and views are asked for often
+		s, _ = edit.Apply(r.buffer, s)
+	}
 	return s
 }
 

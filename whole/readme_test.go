@@ -5,6 +5,7 @@ import (
 
 	"sealskin/api"
 	"sealskin/client"
+	"sealskin/console"
 	"sealskin/desk"
 	"sealskin/disk"
 	"sealskin/server"
@@ -37,6 +38,20 @@ func TestReadmeWorld(t *testing.T) {
 	let, bad := watch.Releases(policy, 0, script)
 	if len(part) != 2 || watch.Alike(a, b) != 2 || len(let) != 0 || bad != api.OK {
 		t.Error(part, a, b, let, bad)
+	}
+}
+
+// What README.md shows of texts that tell a world.
+func TestReadmeConsole(t *testing.T) {
+	text := "label low level 0\nlabel high level 1\nclient low secret s\nclient high secret t down\ngo\n" +
+		"login 0\nlogin 1\ncarry 4\nedit 0 0 0 ac\ncarry 4\nedit 1 1 0 B\ncarry 4\nshow 0\nshow 1\npurged 0 999\n"
+	line, bad := console.Check(text)
+	if line != 0 || bad != api.OK {
+		t.Fatal(line, bad)
+	}
+	report, line, bad := console.Run(text)
+	if report != "ok\nok\nok\nok\nok\nok\nok\nshow 2 1 1 2 \"ac\"\nshow 2 1 2 0 \"aBc\"\npurged 9 9\n" || line != 0 || bad != api.OK {
+		t.Error(report, line, bad)
 	}
 }
 
